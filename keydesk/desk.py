@@ -1,5 +1,6 @@
 """The calls, told in one list of whole numbers, and their answers in another."""
 
+from keydesk.chamber import Chamber, message_of
 from keydesk.pistons import Pistons
 from keydesk.plan import Held, has_all_that_is_held, plan_as_told
 from keydesk.speaking import answer_pipes, answer_why
@@ -11,6 +12,12 @@ HAND = 11
 SET = 12
 PRESS = 13
 BACK = 14
+NOW = 15
+PAGE = 16
+LOAD = 17
+SAY = 20
+START_CHAMBER = 21
+TICK = 22
 
 NO_PLAN = -22
 NOT_THERE = -71
@@ -48,6 +55,7 @@ class Desk:
 
     def __init__(self):
         self.pistons = Pistons()
+        self.chamber = Chamber()
 
 
 def answers(calls):
@@ -68,7 +76,11 @@ def answer_call(desk, reader):
     call = reader.take()
     if call == PIPES or call == WHY:
         return answer_of_keys(call, reader)
-    return [answer_of_pistons(call, desk.pistons, reader)]
+    if START <= call <= LOAD:
+        return answer_of_pistons(call, desk.pistons, reader)
+    if SAY <= call <= TICK:
+        return answer_of_chamber(call, desk.chamber, reader)
+    raise UnknownCall(f"no such call: {call}")
 
 
 def answer_of_keys(call, reader):
@@ -91,18 +103,45 @@ def answer_of_keys(call, reader):
 
 
 def answer_of_pistons(call, pistons, reader):
+    if call == SET or call == PRESS:
+        return [answer_of_a_piston(call, pistons, reader)]
+    if call == NOW:
+        return [0, pistons.stops, pistons.couplers]
+    if call == PAGE:
+        return pistons.tell_page(reader.take())
     if call == START:
-        return pistons.start_with(reader.take_row())
+        return [pistons.start_with(reader.take_row())]
+    if call == BACK:
+        return [pistons.go_back()]
     if call == HAND:
         stops = reader.take()
-        return pistons.draw_by_hand(stops, reader.take())
-    if call == BACK:
-        return pistons.go_back()
-    if call != SET and call != PRESS:
-        raise UnknownCall(f"no such call: {call}")
+        return [pistons.draw_by_hand(stops, reader.take())]
+    level_number = reader.take()
+    first_page = reader.take_row()
+    return [pistons.load_level(level_number, first_page, reader.take_row())]
+
+
+def answer_of_a_piston(call, pistons, reader):
     level_number = reader.take()
     kind = reader.take()
     n = reader.take()
     if call == SET:
         return pistons.set_piston(level_number, kind, n)
     return pistons.press_piston(level_number, kind, n)
+
+
+def answer_of_chamber(call, chamber, reader):
+    if call == SAY:
+        return answer_say(reader)
+    if call == START_CHAMBER:
+        chamber.start_anew()
+        return [0]
+    return chamber.hear_tick(reader.take_row())
+
+
+def answer_say(reader):
+    stops = reader.take()
+    couplers = reader.take()
+    off = reader.take()
+    number = reader.take()
+    return [0] + message_of(number, reader.take_row() + [stops, couplers, off])

@@ -1,23 +1,14 @@
-"""Pistons: what is drawn now, and what was set on the pistons, level by level."""
+"""Pistons: what is drawn now, and what the pistons bring, level by level."""
+
+from keydesk.levels import DIVISIONS, GENERAL, GREATEST_COUNT, LEVELS, Level, is_level, is_piston
+from keydesk.pages import level_told_by, page_of
 
 WRONG = -22
 EMPTY = -2
 COUNT_IS_FULL = -28
-DIVISIONS = 4
-LEVELS = 8
-GENERAL = 0
-GENERALS = 16
-DIVISIONALS = 8
-GREATEST_COUNT = 0xFFFFFFFF
-
-
-class Level:
-    """What was set on a level's pistons, and how often."""
-
-    def __init__(self):
-        self.count = 0
-        # By (kind, n), stops and couplers of the pistons that aren't empty: nothing drawn isn't empty.
-        self.contents = {}
+FROM_NEITHER = 0
+FROM_FIRST = 1
+FROM_SECOND = 2
 
 
 class Pistons:
@@ -82,6 +73,25 @@ class Pistons:
         self.before = None
         return 0
 
+    def tell_page(self, level_number):
+        if not is_level(level_number):
+            return [WRONG]
+        return [0] + page_of(self.levels[level_number], level_number)
+
+    def load_level(self, level_number, first_page, second_page):
+        if not is_level(level_number):
+            return WRONG
+        first = level_told_by(first_page, level_number, self.masks)
+        second = level_told_by(second_page, level_number, self.masks)
+        if first is not None and (second is None or second.count <= first.count):
+            self.levels[level_number] = first
+            return FROM_FIRST
+        if second is not None:
+            self.levels[level_number] = second
+            return FROM_SECOND
+        self.levels[level_number] = Level()
+        return FROM_NEITHER
+
 
 def have_common_stop(masks):
     seen = 0
@@ -90,9 +100,3 @@ def have_common_stop(masks):
             return True
         seen = seen | mask
     return False
-
-
-def is_piston(level_number, kind, n):
-    if level_number >= LEVELS or kind > DIVISIONS:
-        return False
-    return n < (GENERALS if kind == GENERAL else DIVISIONALS)

@@ -54,10 +54,6 @@ class Held:
         self.off = off
 
 
-def has_bit(bits, number):
-    return (bits >> number) & 1 == 1
-
-
 def rows_of(numbers, size):
     return [numbers[k:k + size] for k in range(0, len(numbers), size)]
 

@@ -1,6 +1,7 @@
 """Which keys sound, which pipes speak, and why."""
 
-from keydesk.plan import ALL_KEYS, MOST_RANKS, has_bit
+from keydesk.octets import has_bit
+from keydesk.plan import ALL_KEYS, MOST_RANKS
 
 DOES_NOT_SPEAK = -2
 HELD_ITSELF = 255

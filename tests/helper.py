@@ -1,8 +1,9 @@
-"""Makes calls for the tests, takes answers apart, and tells anew, word by word, what Part 1 says."""
+"""Makes calls for the tests, takes answers apart, and tells anew what the document says of keys, pages, messages."""
 
 import random
+import struct
 
-from keydesk.desk import Desk, Reader, answer_all, answers
+from keydesk.desk import answers
 
 ALL_KEYS = 2 ** 61 - 1
 ALL_64 = 2 ** 64 - 1
@@ -20,9 +21,12 @@ def bits(*numbers):
 def split(told):
     """The answers, a list each."""
     parts = []
-    while told:
-        parts.append(told[1:1 + told[0]])
-        told = told[1 + told[0]:]
+    place = 0
+    while place < len(told):
+        end = place + 1 + told[place]
+        assert end <= len(told), (place, told[place])
+        parts.append(told[place + 1:end])
+        place = end
     return parts
 
 
@@ -152,19 +156,102 @@ def press(level, kind, n):
 
 
 BACK = [14]
+NOW = [15]
 
 
-def carry_out(desk, *calls):
-    """The same way that answers goes, on a desk that can be looked at behind it."""
-    return split(answer_all(desk, Reader([number for call in calls for number in call])))
+def page(level):
+    return [16, level]
 
 
-def drawn(desk):
-    return (desk.pistons.stops, desk.pistons.couplers)
+def load(level, a, b):
+    return [17, level] + row(a) + row(b)
 
 
 def drawn_after(*calls):
-    desk = Desk()
-    told = carry_out(desk, *calls)
-    assert told == ask(*calls)
-    return drawn(desk)
+    """What now answers behind these calls: stops and couplers."""
+    answer = ask(*calls, NOW)[-1]
+    assert len(answer) == 3 and answer[0] == 0, answer
+    return tuple(answer[1:])
+
+
+def whole_after(*calls):
+    """All that the pistons have behind these calls: what's drawn, the pages, what was before, the masks."""
+    to_see_masks = [hand(ALL_64), *[set_on(6, kind, 0) for kind in (1, 2, 3, 4)], page(6)]
+    probes = [NOW, *[page(level) for level in range(8)], BACK, NOW, *to_see_masks]
+    return ask(*calls, *probes)[len(calls):]
+
+
+def crc_32c(octets):
+    """By long division from the high bit, over the bits of each byte turned about."""
+    size = 8 * len(octets)
+    rest = int("".join(f"{octet:08b}"[::-1] for octet in octets), 2) << 32 ^ ALL_32 << size
+    for place in reversed(range(size)):
+        if rest >> 32 + place & 1:
+            rest ^= 0x11EDC6F41 << place
+    return int(f"{rest ^ ALL_32:032b}"[::-1], 2)
+
+
+def checked(octets):
+    """These bytes, with the check that fits them behind."""
+    return [*octets, *struct.pack("<I", crc_32c(octets))]
+
+
+PISTONS = [(kind, n) for kind in range(5) for n in range(8 if kind else 16)]
+
+
+def page_told(level, count=0, contents=None, second=0, hidden=None):
+    """A page; contents are stops and couplers by (kind, n), hidden is what stands at empty ones."""
+    contents = contents or {}
+    there = {**contents, **(hidden or {})}
+    filled = [bits(*[n for its_kind, n in contents if its_kind == kind]) for kind in range(5)]
+    told = struct.pack("<BBH4BI", level, second, *filled, count)
+    for piston in PISTONS:
+        stops, couplers = there.get(piston, (0, 0))
+        told += struct.pack("<Q", stops) if piston[0] else struct.pack("<QI", stops, couplers)
+    return checked(told)
+
+
+def level_told(octets, level, masks):
+    """Count and contents that a page tells, or None where it isn't right for the level."""
+    fields = struct.unpack("<BBH4BI" + "QI" * 16 + "32QI", bytes(octets))
+    filled, count, generals, divisionals = fields[2:7], fields[7], fields[8:40], fields[40:72]
+    contents = {}
+    for kind, n in PISTONS:
+        if filled[kind] >> n & 1:
+            contents[kind, n] = generals[2 * n:2 * n + 2] if kind == 0 else (divisionals[8 * kind - 8 + n], 0)
+    if any(kind and stops & ~masks[kind - 1] for (kind, n), (stops, couplers) in contents.items()):
+        return None
+    return (count, contents) if page_told(level, count, contents) == list(octets) else None
+
+
+def random_contents(source, masks):
+    """Something for some pistons of a level."""
+    contents = {}
+    for kind, n in source.sample(PISTONS, source.choice([0, 1, 5, 48])):
+        stops = source.choice([0, ALL_64, source.getrandbits(64)])
+        contents[kind, n] = (stops & masks[kind - 1], 0) if kind else (stops, source.getrandbits(32))
+    return contents
+
+
+# Part 3
+
+START_CHAMBER = [21]
+NOTHING_HELD = [0] * 7
+ALL_HELD = [ALL_64] * 5 + [ALL_32] * 2
+
+
+def say(held, number):
+    """held: four sets of keys, stops, couplers, off."""
+    return [20, *held[4:], number] + row(held[:4])
+
+
+def tick(message=()):
+    return [22] + row(message)
+
+
+def message_told(held, number):
+    return checked(struct.pack("<I5Q2I", number, *held))
+
+
+def random_held(source):
+    return [source.choice([0, source.getrandbits(size), (1 << size) - 1]) for size in [64] * 5 + [32] * 2]

@@ -1,30 +1,23 @@
-"""Part 2, promises 1 to 5: start, hand, set, press, back, and their corners.
-
-What's drawn is looked up on the desk itself, behind the same calls that answers takes."""
+"""Part 2, promises 1 to 6: start, hand, set, press, back, now, and their corners."""
 
 import unittest
 
-from keydesk.desk import Desk
-from tests.helper import (ALL_32, ALL_64, BACK, MASKS, ask, bits, carry_out, drawn, drawn_after, hand, press, set_on,
-                          start)
+from tests.helper import (ALL_32, ALL_64, BACK, MASKS, NOW, PISTONS, ask, bits, drawn_after, hand, load, page,
+                          page_told, press, set_on, start, whole_after)
+
+# Calls behind which there's something of everything.
+BUSY = [start(), hand(bits(0, 9, 40), 5), set_on(0, 0, 0), set_on(7, 4, 7), set_on(3, 1, 2), hand(bits(1, 63), 6),
+        press(0, 0, 0), hand(bits(2, 8), 9)]
 
 
-def whole(desk):
-    """All that an object has, to be compared with what it has later."""
-    pistons = desk.pistons
-    levels = [(level.count, dict(level.contents)) for level in pistons.levels]
-    return (list(pistons.masks), pistons.stops, pistons.couplers, pistons.before, levels)
+class PistonCase(unittest.TestCase):
+    def refuses(self, number, *calls):
+        """Behind BUSY each of these is answered by this number alone, and changes nothing."""
+        self.assertEqual(ask(*BUSY, *calls)[len(BUSY):], [[number]] * len(calls))
+        self.assertEqual(whole_after(*BUSY, *calls), whole_after(*BUSY))
 
 
-def busy_desk():
-    """A desk that has something of everything."""
-    desk = Desk()
-    carry_out(desk, start(), hand(bits(0, 9, 40), 5), set_on(0, 0, 0), set_on(7, 4, 7), set_on(3, 1, 2),
-              hand(bits(1, 63), 6), press(0, 0, 0), hand(bits(2, 8), 9))
-    return desk
-
-
-class TestStart(unittest.TestCase):
+class TestStart(PistonCase):
     def test_answers_0(self):
         for masks in (MASKS, [0, 0, 0, 0], [ALL_64, 0, 0, 0], [0, 0, 0, ALL_64], [1, 2, 4, 8],
                       [0x5555555555555555, 0xAAAAAAAAAAAAAAAA, 0, 0]):
@@ -44,10 +37,7 @@ class TestStart(unittest.TestCase):
         self.assertEqual(ask(start([1, 1, 0, 0]), start([2, 0, 0, 2]), start(), BACK), [[-22], [-22], [0], [-2]])
 
     def test_refused_it_is_as_it_was(self):
-        desk = busy_desk()
-        there = whole(desk)
-        self.assertEqual(carry_out(desk, start([1, 1, 0, 0])), [[-22]])
-        self.assertEqual(whole(desk), there)
+        self.refuses(-22, start([1, 1, 0, 0]), start([ALL_64, 0, 0, 1]))
         told = ask(start(), hand(1, 1), set_on(0, 0, 0), press(0, 0, 0), start([1, 1, 0, 0]), press(0, 0, 0), BACK)
         self.assertEqual(told, [[0], [0], [0], [0], [-22], [0], [0]])
 
@@ -57,9 +47,9 @@ class TestStart(unittest.TestCase):
         self.assertEqual(drawn_after(*calls), (bits(0, 9), 0))
 
     def test_again_all_begins_anew(self):
-        desk = busy_desk()
-        self.assertEqual(carry_out(desk, start([1, 2, 4, 8])), [[0]])
-        self.assertEqual(whole(desk), ([1, 2, 4, 8], 0, 0, None, [(0, {})] * 8))
+        self.assertEqual(whole_after(*BUSY, start([1, 2, 4, 8])), whole_after(start([1, 2, 4, 8])))
+        told = ask(*BUSY, start([1, 2, 4, 8]), NOW, BACK, *[page(level) for level in range(8)])[len(BUSY):]
+        self.assertEqual(told, [[0], [0, 0, 0], [-2]] + [[0] + page_told(level) for level in range(8)])
         told = ask(start(), set_on(0, 0, 0), set_on(7, 4, 7), press(0, 0, 0), start(), BACK, press(0, 0, 0),
                    press(7, 4, 7))
         self.assertEqual(told, [[0], [0], [0], [0], [0], [-2], [-2], [-2]])
@@ -69,7 +59,7 @@ class TestStart(unittest.TestCase):
         self.assertEqual(drawn_after(start(), hand(3, 4), start()), (0, 0))
 
     def test_levels_are_empty_at_first(self):
-        pressed = [press(level, kind, n) for level in range(8) for kind in range(5) for n in range(8 if kind else 16)]
+        pressed = [press(level, kind, n) for level in range(8) for kind, n in PISTONS]
         self.assertEqual(len(pressed), 8 * (16 + 4 * 8))
         self.assertEqual(ask(start(), *pressed), [[0]] + [[-2]] * len(pressed))
 
@@ -90,7 +80,7 @@ class TestHand(unittest.TestCase):
         self.assertEqual(drawn_after(start(), hand(1, 2), hand(3, 4), BACK), (3, 4))
 
 
-class TestEdges(unittest.TestCase):
+class TestEdges(PistonCase):
     """-22 of set and press alike."""
 
     wrong = ((8, 0, 0), (9, 0, 0), (ALL_32, 0, 0), (8, 1, 0), (0, 5, 0), (0, 6, 0), (0, ALL_32, 0), (7, 5, 15),
@@ -110,14 +100,11 @@ class TestEdges(unittest.TestCase):
 
     def test_refused_it_is_as_it_was(self):
         for piston in self.wrong:
-            for call in (set_on(*piston), press(*piston)):
-                desk = busy_desk()
-                there = whole(desk)
-                self.assertEqual(carry_out(desk, call), [[-22]])
-                self.assertEqual(whole(desk), there)
+            self.refuses(-22, set_on(*piston))
+            self.refuses(-22, press(*piston))
 
     def test_every_piston_is_one_of_its_own(self):
-        pistons = [(level, kind, n) for level in range(8) for kind in range(5) for n in range(8 if kind else 16)]
+        pistons = [(level, kind, n) for level in range(8) for kind, n in PISTONS]
         for level, kind, n in pistons[::29]:
             told = ask(start(), set_on(level, kind, n), *[press(*piston) for piston in pistons])
             answered_0 = [piston for piston, answer in zip(pistons, told[2:]) if answer == [0]]
@@ -135,39 +122,41 @@ class TestSet(unittest.TestCase):
             self.assertEqual(drawn_after(*calls), (MASKS[kind - 1], 0))
 
     def test_nothing_else_changes(self):
-        desk = busy_desk()
-        masks, stops, couplers, before, levels = whole(desk)
-        levels[5] = (1, {(2, 6): (bits(8), 0)})
-        self.assertEqual(carry_out(desk, set_on(5, 2, 6)), [[0]])
-        self.assertEqual(whole(desk), (masks, stops, couplers, before, levels))
+        expected = whole_after(*BUSY)
+        self.assertEqual(expected[6], [0] + page_told(5))
+        expected[6] = [0] + page_told(5, 1, {(2, 6): (bits(8), 0)})
+        self.assertEqual(whole_after(*BUSY, set_on(5, 2, 6)), expected)
 
     def test_the_count_is_one_more(self):
-        desk = Desk()
-        carry_out(desk, start(), set_on(0, 0, 0), set_on(0, 0, 0), set_on(0, 4, 7), set_on(6, 1, 1), press(0, 0, 0))
-        self.assertEqual([level.count for level in desk.pistons.levels], [3, 0, 0, 0, 0, 0, 1, 0])
+        calls = (start(), set_on(0, 0, 0), set_on(0, 0, 0), set_on(0, 4, 7), set_on(6, 1, 1), press(0, 0, 0))
+        told = ask(*calls, *[page(level) for level in range(8)])[len(calls):]
+        self.assertEqual([answer[9:13] for answer in told], [[count, 0, 0, 0] for count in (3, 0, 0, 0, 0, 0, 1, 0)])
 
     def test_a_full_count(self):
-        desk = busy_desk()
-        desk.pistons.levels[0].count = ALL_32 - 1
-        self.assertEqual(carry_out(desk, set_on(0, 0, 1)), [[0]])
-        self.assertEqual(desk.pistons.levels[0].count, ALL_32)
-        there = whole(desk)
-        told = carry_out(desk, set_on(0, 0, 0), set_on(0, 2, 3), set_on(0, 0, 16), set_on(0, 5, 0))
-        self.assertEqual(told, [[-28], [-28], [-22], [-22]])
-        self.assertEqual(whole(desk), there)
-        self.assertEqual(carry_out(desk, set_on(1, 0, 0), press(0, 0, 0)), [[0], [0]])
+        full = page_told(0, ALL_32, {(0, 0): (bits(5), 7)})
+        calls = [*BUSY, load(0, full, full)]
+        told = ask(*calls, set_on(0, 0, 0), set_on(0, 2, 3), set_on(0, 0, 16), set_on(0, 5, 0))[len(BUSY):]
+        self.assertEqual(told, [[1], [-28], [-28], [-22], [-22]])
+        self.assertEqual(whole_after(*calls, set_on(0, 0, 0), set_on(0, 2, 3)), whole_after(*calls))
+        self.assertEqual(ask(*calls, set_on(0, 0, 0), page(0))[-1], [0] + full)
+        self.assertEqual(ask(*calls, set_on(0, 0, 0), set_on(1, 0, 0), press(0, 0, 0), NOW)[-3:],
+                         [[0], [0], [0, bits(5), 7]])
+
+    def test_a_count_that_gets_full(self):
+        nearly = page_told(3, ALL_32 - 1, {(4, 7): (bits(62), 0)})
+        told = ask(start(), load(3, nearly, nearly), hand(bits(0, 1), 2), set_on(3, 0, 1), page(3), set_on(3, 0, 1),
+                   hand(0), set_on(3, 0, 2), page(3))
+        full = page_told(3, ALL_32, {(4, 7): (bits(62), 0), (0, 1): (bits(0, 1), 2)})
+        self.assertEqual(told, [[0], [1], [0], [0], [0] + full, [-28], [0], [-28], [0] + full])
 
     def test_anew(self):
         calls = (start(), hand(3, 1), set_on(0, 0, 0), hand(4, 2), set_on(0, 0, 0), hand(0), press(0, 0, 0))
         self.assertEqual(drawn_after(*calls), (4, 2))
 
 
-class TestPress(unittest.TestCase):
+class TestPress(PistonCase):
     def test_an_empty_one(self):
-        desk = busy_desk()
-        there = whole(desk)
-        self.assertEqual(carry_out(desk, press(0, 0, 1), press(1, 0, 0), press(0, 1, 0)), [[-2]] * 3)
-        self.assertEqual(whole(desk), there)
+        self.refuses(-2, press(0, 0, 1), press(1, 0, 0), press(0, 1, 0), press(3, 0, 2), press(7, 3, 7))
 
     def test_a_general_draws_nothing_else(self):
         calls = (start(), hand(bits(0, 9), 1), set_on(0, 0, 0), hand(bits(1, 9, 40, 63), 6), press(0, 0, 0))
@@ -249,6 +238,32 @@ class TestBack(unittest.TestCase):
         calls = (start(), set_on(0, 0, 0), hand(4, 2), press(0, 0, 0), press(0, 0, 1), press(8, 0, 0), BACK)
         self.assertEqual([answer[0] for answer in ask(*calls)], [0, 0, 0, 0, -2, -22, 0])
         self.assertEqual(drawn_after(*calls), (4, 2))
+
+
+class TestNow(unittest.TestCase):
+    def test_after_start(self):
+        self.assertEqual(ask(start(), NOW), [[0], [0, 0, 0]])
+        self.assertEqual(ask(*BUSY, start(), NOW)[-1], [0, 0, 0])
+
+    def test_after_hand(self):
+        self.assertEqual(ask(start(), hand(bits(3, 63), bits(0, 31)), NOW)[-1], [0, bits(3, 63), bits(0, 31)])
+        self.assertEqual(ask(start(), hand(ALL_64, ALL_32), NOW)[-1], [0, ALL_64, ALL_32])
+        self.assertEqual(ask(start(), hand(ALL_64, ALL_32), hand(0, 1), NOW)[-1], [0, 0, 1])
+
+    def test_after_press_and_back(self):
+        told = ask(start(), hand(bits(0, 9), 1), set_on(0, 0, 0), set_on(0, 1, 0), hand(bits(1, 10, 40), 6), NOW,
+                   press(0, 0, 0), NOW, BACK, NOW, press(0, 1, 0), NOW, BACK, NOW, BACK, NOW)
+        drawn_by_hand = [0, bits(1, 10, 40), 6]
+        self.assertEqual(told[5:], [drawn_by_hand, [0], [0, bits(0, 9), 1], [0], drawn_by_hand,
+                                    [0], [0, bits(0, 10, 40), 6], [0], drawn_by_hand, [-2], drawn_by_hand])
+
+    def test_it_changes_nothing(self):
+        self.assertEqual(whole_after(*BUSY, NOW, NOW), whole_after(*BUSY))
+
+    def test_set_and_page_and_load_draw_nothing(self):
+        right = page_told(0, 9, {(0, 0): (bits(7), 8)})
+        told = ask(*BUSY, NOW, set_on(0, 0, 0), NOW, page(0), NOW, load(0, right, right), NOW)[len(BUSY):]
+        self.assertEqual(told[0::2], [[0, bits(2, 8), 9]] * 4)
 
 
 if __name__ == "__main__":
