@@ -34,7 +34,7 @@ def spoil(source, message):
 
 
 def line(source, messages, how_many):
-    """What a line makes of messages, each with its place or None: lost, doubled, turned about, spoilt, silent a while."""
+    """What a line makes of messages, each with its place or None: lost, doubled, turned about, spoilt."""
     heard = []
     place = 0
     while len(heard) < how_many:
